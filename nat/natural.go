@@ -23,6 +23,11 @@ const (
 	chunkScale  = 1000000000
 )
 
+// Of returns n as a natural number.
+func Of(n uint64) Natural {
+	return Natural{uint32(n), uint32(n >> limbBits)}.trim()
+}
+
 // Parse reads a natural number with any number of digits; ErrForm if it is none.
 func Parse(a string) (Natural, error) {
 	if !isNatural(a) {
@@ -194,6 +199,17 @@ func (x Natural) Div(y Natural) (Natural, Natural, error) {
 	}
 	quotient, rest := x.divLong(y)
 	return quotient, rest, nil
+}
+
+// Gcd returns the greatest natural number that divides both; 0 for 0 and 0.
+func (x Natural) Gcd(y Natural) Natural {
+	a, b := x.trim(), y.trim()
+	for len(b) > 0 {
+		// b is not 0, so the remainder exists.
+		_, rest, _ := a.Div(b)
+		a, b = b, rest
+	}
+	return slices.Clone(a)
 }
 
 // divLong is Knuth's algorithm D, for a y of at least two limbs that is not

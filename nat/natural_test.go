@@ -4,6 +4,7 @@ import (
 	"math/big"
 	"math/rand"
 	"slices"
+	"strconv"
 	"strings"
 	"testing"
 
@@ -36,6 +37,16 @@ func TestParseOfAnySize(t *testing.T) {
 	}
 }
 
+func TestOf(t *testing.T) {
+	for _, n := range []uint64{0, 1, 9, 1<<32 - 1, 1 << 32, 1<<32 + 1, 7 << 32, 1<<64 - 1} {
+		x := nat.Of(n)
+		want := strconv.FormatUint(n, 10)
+		if got := x.String(); got != want || !slices.Equal(x, parse(t, want)) {
+			t.Errorf("Of(%d) = %v", n, []uint32(x))
+		}
+	}
+}
+
 // results are those of all methods, with the errors as text.
 func results(x, y nat.Natural) []string {
 	var less string
@@ -47,6 +58,7 @@ func results(x, y nat.Natural) []string {
 	return []string{
 		x.Add(y).String(), diff.String() + plain.Told(diffErr).Error(),
 		x.Mul(y).String(), q.String() + " " + r.String() + plain.Told(divErr).Error(), less,
+		x.Gcd(y).String(),
 	}
 }
 
@@ -78,7 +90,19 @@ func resultsByBig(x, y *big.Int) []string {
 		}
 		list = append(list, text)
 	}
-	return list
+	return append(list, new(big.Int).GCD(nil, nil, x, y).String())
+}
+
+func TestGcdOfNaturals(t *testing.T) {
+	list := append(numbers(), new(big.Int).Lsh(big.NewInt(945), 40), big.NewInt(1155))
+	for _, x := range list {
+		for _, y := range list {
+			got := parse(t, x.String()).Gcd(parse(t, y.String())).String()
+			if want := new(big.Int).GCD(nil, nil, x, y).String(); got != want {
+				t.Errorf("Gcd of %v and %v = %s, want %s", x, y, got, want)
+			}
+		}
+	}
 }
 
 func TestLeadingZeros(t *testing.T) {
@@ -111,7 +135,7 @@ func TestMemoryOfNaturals(t *testing.T) {
 			beforeX, beforeY := slices.Clone(wholeX), slices.Clone(wholeY)
 			diff, _ := x.Sub(y)
 			q, r, _ := x.Div(y)
-			made := []nat.Natural{x.Add(y), diff, x.Mul(y), q, r}
+			made := []nat.Natural{x.Add(y), diff, x.Mul(y), q, r, x.Gcd(y)}
 			_, _ = x.String(), x.Less(y)
 			for i, m := range made {
 				if len(m) > 0 && m[len(m)-1] == 0 {

@@ -15,6 +15,15 @@ type Integer struct {
 	size     nat.Natural
 }
 
+// Of returns n as an integer.
+func Of(n int) Integer {
+	size := uint64(n)
+	if n < 0 {
+		size = -size
+	}
+	return Integer{n < 0, nat.Of(size)}
+}
+
 // Parse reads an integer with any number of digits; ErrForm if it is none.
 func Parse(a string) (Integer, error) {
 	digits, negative := strings.CutPrefix(a, "-")
@@ -38,6 +47,22 @@ func (x Integer) String() string {
 		return "-" + x.size.String()
 	}
 	return x.size.String()
+}
+
+// Sign returns 1, 0 or -1, as x is greater than, equal to or less than 0.
+func (x Integer) Sign() int {
+	switch {
+	case x.negative:
+		return -1
+	case len(x.size) > 0:
+		return 1
+	}
+	return 0
+}
+
+// Less reports whether x is less than y.
+func (x Integer) Less(y Integer) bool {
+	return x.Sub(y).negative
 }
 
 // Neg returns x with the other sign.
@@ -83,16 +108,14 @@ func (x Integer) Div(y Integer) (Integer, Integer, error) {
 	return signed(x.negative != y.negative, quotient), Integer{size: rest}, nil
 }
 
-func (x Integer) abs() Integer {
-	return Integer{size: x.size}
+// Gcd returns the greatest natural number that divides both; 0 for 0 and 0. It
+// spares itself what only the function Gcd needs: how that number is made.
+func (x Integer) Gcd(y Integer) Integer {
+	return Integer{size: x.size.Gcd(y.size)}
 }
 
-// sign returns 1, 0 or -1.
-func (x Integer) sign() Integer {
-	if len(x.size) == 0 {
-		return Integer{}
-	}
-	return Integer{x.negative, nat.Natural{1}}
+func (x Integer) abs() Integer {
+	return Integer{size: x.size}
 }
 
 // pair is what the extended Euclidean algorithm is about.
@@ -102,7 +125,7 @@ type pair struct{ a, b Integer }
 func (p pair) gcd() (g, x, y Integer) {
 	q, r, err := p.a.Div(p.b)
 	if err != nil { // b is 0, where the recursion ends
-		return p.a.abs(), p.a.sign(), Integer{}
+		return p.a.abs(), Of(p.a.Sign()), Integer{}
 	}
 	g, u, v := pair{p.b, r}.gcd()
 	return g, v, u.Sub(q.Mul(v))

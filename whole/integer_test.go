@@ -1,8 +1,11 @@
 package whole_test
 
 import (
+	"cmp"
+	"math"
 	"math/big"
 	"math/rand"
+	"strconv"
 	"strings"
 	"testing"
 
@@ -37,6 +40,38 @@ func TestParseOfAnySize(t *testing.T) {
 	}
 }
 
+func TestRead(t *testing.T) {
+	cases := []struct {
+		a, want string
+		wantErr api.Errno
+	}{
+		{"-12", "-12", api.OK},
+		{greatest, greatest, api.OK},
+		{least, least, api.OK},
+		{tooLong, "0", api.ErrFull},
+		{tooLow, "0", api.ErrFull},
+		{"-0", "0", api.ErrForm},
+	}
+	for _, c := range cases {
+		x, err := whole.Read(c.a)
+		if x.String() != c.want || plain.Told(err) != c.wantErr {
+			t.Errorf("Read(%q) = %v, %v; want %s, %v", c.a, x, err, c.want, c.wantErr)
+		}
+	}
+}
+
+func TestOf(t *testing.T) {
+	for _, n := range []int{
+		0, 1, -1, 10, -10, 1<<32 - 1, 1 << 32, -1 << 32, -1<<32 - 1,
+		math.MaxInt, -math.MaxInt, math.MinInt,
+	} {
+		x := whole.Of(n)
+		if x.String() != strconv.Itoa(n) || x.Sign() != cmp.Compare(n, 0) {
+			t.Errorf("Of(%d) = %v, with sign %d", n, x, x.Sign())
+		}
+	}
+}
+
 func TestZeroInteger(t *testing.T) {
 	var zero whole.Integer
 	one := parse(t, "1")
@@ -44,6 +79,9 @@ func TestZeroInteger(t *testing.T) {
 		zero, zero.Neg(), zero.Add(zero), zero.Sub(zero), zero.Mul(one.Neg()),
 		one.Sub(one), one.Neg().Add(one), parse(t, "0"),
 	} {
+		if x.Sign() != 0 || x.Less(zero) || zero.Less(x) {
+			t.Errorf("%v is not 0: its sign is %d", x, x.Sign())
+		}
 		if got := x.String() + " " + x.Sub(one).String() + " " + one.Sub(x).String(); got != "0 -1 1" {
 			t.Errorf("got %q", got)
 		}
@@ -78,6 +116,9 @@ func expectAll(t *testing.T, x, y *big.Int) {
 	if err != nil {
 		t.Fatalf("%v / %v: %v", x, y, err)
 	}
+	if a.Less(b) != (x.Cmp(y) < 0) || a.Sign() != x.Sign() {
+		t.Errorf("%v and %v: Less is %v, the sign of the first is %d", x, y, a.Less(b), a.Sign())
+	}
 	wantQ, wantR := new(big.Int).DivMod(x, y, new(big.Int))
 	for i, c := range []struct {
 		got  whole.Integer
@@ -91,6 +132,7 @@ func expectAll(t *testing.T, x, y *big.Int) {
 		{r, wantR},
 		{a, x},
 		{b, y},
+		{a.Gcd(b), new(big.Int).GCD(nil, nil, new(big.Int).Abs(x), new(big.Int).Abs(y))},
 	} {
 		if c.got.String() != c.want.String() {
 			t.Errorf("%v and %v: value %d is %v, want %v", x, y, i, c.got, c.want)
