@@ -36,6 +36,11 @@ func Parse(a string) (Number, error) {
 	return Number{top, bottom}, nil
 }
 
+// Whole returns n as a rational number.
+func Whole(n whole.Integer) Number {
+	return Number{top: n}
+}
+
 // Quotient returns top divided by bottom; ErrZero if bottom is 0.
 func Quotient(top, bottom whole.Integer) (Number, error) {
 	if bottom.Sign() == 0 {
@@ -57,9 +62,9 @@ func reduced(top, bottom whole.Integer) Number {
 	return Number{top, bottom}
 }
 
-// parts returns the numerator and the denominator, which is greater than 0 and
+// Parts returns the numerator and the denominator, which is greater than 0 and
 // has no common divisor with the numerator except 1.
-func (x Number) parts() (top, bottom whole.Integer) {
+func (x Number) Parts() (top, bottom whole.Integer) {
 	if x.bottom.Sign() == 0 {
 		return x.top, whole.Of(1)
 	}
@@ -80,35 +85,35 @@ func (x Number) String() string {
 
 // Add returns the sum.
 func (x Number) Add(y Number) Number {
-	a, b := x.parts()
-	c, d := y.parts()
+	a, b := x.Parts()
+	c, d := y.Parts()
 	return reduced(a.Mul(d).Add(c.Mul(b)), b.Mul(d))
 }
 
 // Mul returns the product.
 func (x Number) Mul(y Number) Number {
-	a, b := x.parts()
-	c, d := y.parts()
+	a, b := x.Parts()
+	c, d := y.Parts()
 	return reduced(a.Mul(c), b.Mul(d))
 }
 
 // Div returns the quotient; ErrZero if y is 0.
 func (x Number) Div(y Number) (Number, error) {
-	a, b := x.parts()
-	c, d := y.parts()
+	a, b := x.Parts()
+	c, d := y.Parts()
 	return Quotient(a.Mul(d), b.Mul(c))
 }
 
 // Less reports whether x is less than y.
 func (x Number) Less(y Number) bool {
-	a, b := x.parts()
-	c, d := y.parts()
+	a, b := x.Parts()
+	c, d := y.Parts()
 	return a.Mul(d).Less(c.Mul(b))
 }
 
 // Floor returns the greatest integer that is not greater than x.
 func (x Number) Floor() whole.Integer {
-	top, bottom := x.parts()
+	top, bottom := x.Parts()
 	// The denominator is greater than 0, so there is a quotient, and the
 	// remainder, which is not negative, makes it the greatest such integer.
 	floor, _, _ := top.Div(bottom)

@@ -94,6 +94,42 @@ func TestQuotient(t *testing.T) {
 	}
 }
 
+func TestWhole(t *testing.T) {
+	for _, a := range []string{"0", "1", "-1", greatest, least, tooLong, tooLow} {
+		n, err := whole.Parse(a)
+		if err != nil {
+			t.Fatalf("Parse(%q): %v", a, err)
+		}
+		x := rat.Whole(n)
+		if x.String() != a || x.Less(parse(t, a)) || parse(t, a).Less(x) {
+			t.Errorf("Whole(%s) = %v", a, x)
+		}
+	}
+}
+
+func TestParts(t *testing.T) {
+	for _, c := range []struct{ a, top, bottom string }{
+		{"0", "0", "1"},
+		{"5", "5", "1"},
+		{"-5", "-5", "1"},
+		{"1/2", "1", "2"},
+		{"-10/21", "-10", "21"},
+		{leastPositive, "1", leastPositive[2:]},
+	} {
+		there := parse(t, c.a).Add(parse(t, "1/2"))
+		for _, x := range []rat.Number{parse(t, c.a), there.Add(parse(t, "-1/2"))} {
+			top, bottom := x.Parts()
+			if top.String() != c.top || bottom.String() != c.bottom {
+				t.Errorf("Parts of %s: %v and %v", c.a, top, bottom)
+			}
+		}
+	}
+	top, bottom := rat.Number{}.Parts()
+	if top.String() != "0" || bottom.String() != "1" {
+		t.Errorf("Parts of the zero value: %v and %v", top, bottom)
+	}
+}
+
 func TestLargeNumbers(t *testing.T) {
 	source := rand.New(rand.NewSource(6))
 	part := func(bits uint) *big.Int {
