@@ -104,11 +104,16 @@ func (x Number) Div(y Number) (Number, error) {
 	return Quotient(a.Mul(d), b.Mul(c))
 }
 
-// Less reports whether x is less than y.
-func (x Number) Less(y Number) bool {
+// Compare returns -1, 0 or 1, as x is less than, equal to or greater than y.
+func (x Number) Compare(y Number) int {
 	a, b := x.Parts()
 	c, d := y.Parts()
-	return a.Mul(d).Less(c.Mul(b))
+	return a.Mul(d).Sub(c.Mul(b)).Sign()
+}
+
+// Less reports whether x is less than y.
+func (x Number) Less(y Number) bool {
+	return x.Compare(y) < 0
 }
 
 // Floor returns the greatest integer that is not greater than x.

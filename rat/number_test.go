@@ -3,6 +3,7 @@ package rat_test
 import (
 	"math/big"
 	"math/rand"
+	"strconv"
 	"strings"
 	"testing"
 
@@ -71,7 +72,7 @@ func TestZeroNumber(t *testing.T) {
 		if got != "0 0 1 1" {
 			t.Errorf("got %q", got)
 		}
-		if x.Less(zero) || zero.Less(x) || one.Less(x) || !x.Less(one) {
+		if x.Less(zero) || zero.Less(x) || one.Less(x) || !x.Less(one) || x.Compare(zero) != 0 || zero.Compare(x) != 0 {
 			t.Errorf("%v is not in order", x)
 		}
 		q, err := one.Div(x)
@@ -167,6 +168,9 @@ func expectAll(t *testing.T, x, y *big.Rat) {
 		{quotient.String(), new(big.Rat).Quo(x, y).RatString()},
 		{truth(a.Less(b)), truth(x.Cmp(y) < 0)},
 		{truth(b.Less(a)), truth(y.Cmp(x) < 0)},
+		{strconv.Itoa(a.Compare(b)), strconv.Itoa(x.Cmp(y))},
+		{strconv.Itoa(b.Compare(a)), strconv.Itoa(y.Cmp(x))},
+		{strconv.Itoa(a.Compare(a)), "0"},
 		{a.Floor().String(), floorByBig(x)},
 		{b.Floor().String(), floorByBig(y)},
 		{a.String(), x.RatString()},
