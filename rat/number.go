@@ -83,11 +83,26 @@ func (x Number) String() string {
 	return x.top.String()
 }
 
+// Sign returns 1, 0 or -1, as x is greater than, equal to or less than 0.
+func (x Number) Sign() int {
+	return x.top.Sign()
+}
+
+// Neg returns x with the other sign.
+func (x Number) Neg() Number {
+	return Number{x.top.Neg(), x.bottom}
+}
+
 // Add returns the sum.
 func (x Number) Add(y Number) Number {
 	a, b := x.Parts()
 	c, d := y.Parts()
 	return reduced(a.Mul(d).Add(c.Mul(b)), b.Mul(d))
+}
+
+// Sub returns the difference.
+func (x Number) Sub(y Number) Number {
+	return x.Add(y.Neg())
 }
 
 // Mul returns the product.

@@ -75,6 +75,9 @@ func TestZeroNumber(t *testing.T) {
 		if x.Less(zero) || zero.Less(x) || one.Less(x) || !x.Less(one) || x.Compare(zero) != 0 || zero.Compare(x) != 0 {
 			t.Errorf("%v is not in order", x)
 		}
+		if x.Sign() != 0 || x.Neg().Sign() != 0 || x.Neg().String() != "0" || x.Sub(one).String() != "-1" || one.Sub(x).String() != "1" {
+			t.Errorf("%v has another sign, negative or difference than 0", x)
+		}
 		q, err := one.Div(x)
 		if q.String() != "0" || plain.Told(err) != api.ErrZero {
 			t.Errorf("Div by 0 = %v, %v", q, err)
@@ -164,6 +167,13 @@ func expectAll(t *testing.T, x, y *big.Rat) {
 	}
 	for i, c := range []struct{ got, want string }{
 		{a.Add(b).String(), new(big.Rat).Add(x, y).RatString()},
+		{a.Sub(b).String(), new(big.Rat).Sub(x, y).RatString()},
+		{b.Sub(a).String(), new(big.Rat).Sub(y, x).RatString()},
+		{a.Sub(a).String(), "0"},
+		{a.Neg().String(), new(big.Rat).Neg(x).RatString()},
+		{b.Neg().String(), new(big.Rat).Neg(y).RatString()},
+		{strconv.Itoa(a.Sign()), strconv.Itoa(x.Sign())},
+		{strconv.Itoa(b.Sign()), strconv.Itoa(y.Sign())},
 		{a.Mul(b).String(), new(big.Rat).Mul(x, y).RatString()},
 		{quotient.String(), new(big.Rat).Quo(x, y).RatString()},
 		{truth(a.Less(b)), truth(x.Cmp(y) < 0)},
