@@ -201,17 +201,6 @@ func (x Natural) Div(y Natural) (Natural, Natural, error) {
 	return quotient, rest, nil
 }
 
-// Gcd returns the greatest natural number that divides both; 0 for 0 and 0.
-func (x Natural) Gcd(y Natural) Natural {
-	a, b := x.trim(), y.trim()
-	for len(b) > 0 {
-		// b is not 0, so the remainder exists.
-		_, rest, _ := a.Div(b)
-		a, b = b, rest
-	}
-	return slices.Clone(a)
-}
-
 // divLong is Knuth's algorithm D, for a y of at least two limbs that is not
 // greater than x. Both are first doubled until the leading bit of y is set,
 // which makes the guesses good enough.
