@@ -14,19 +14,14 @@ import (
 // spends its time on bringing long ones to lowest terms.
 type integral []whole.Integer
 
-// cleared returns p times the smallest number that leaves no denominators.
+// cleared returns p times some number that leaves no denominators.
 func cleared(p poly.Polynomial) integral {
-	multiple := whole.Of(1)
-	for _, c := range p {
-		_, bottom := c.Parts()
-		multiple = multiple.Mul(divided(bottom, multiple.Gcd(bottom)))
+	primitive := p.Primitive()
+	multiples := make(integral, len(primitive))
+	for i, c := range primitive {
+		multiples[i], _ = c.Parts()
 	}
-	multiples := make(integral, len(p))
-	for i, c := range p {
-		top, bottom := c.Parts()
-		multiples[i] = top.Mul(divided(multiple, bottom))
-	}
-	return multiples.trim()
+	return multiples
 }
 
 // divided returns a divided by b, which is not 0 and divides it.

@@ -115,3 +115,27 @@ func (p Polynomial) Shift(a rat.Number) Polynomial {
 	}
 	return shifted
 }
+
+// Primitive returns p times the number greater than 0 that makes the
+// coefficients integers without a common divisor; the zero polynomial for the
+// zero polynomial.
+func (p Polynomial) Primitive() Polynomial {
+	common, multiple := whole.Of(0), whole.Of(1)
+	for _, c := range p {
+		top, bottom := c.Parts()
+		common = common.Gcd(top)
+		multiple = multiple.Mul(divided(bottom, multiple.Gcd(bottom)))
+	}
+	primitive := slices.Clone(p.trim())
+	for i, c := range primitive {
+		top, bottom := c.Parts()
+		primitive[i] = rat.Whole(divided(top, common).Mul(divided(multiple, bottom)))
+	}
+	return primitive
+}
+
+// divided returns a divided by b, which is not 0 and divides it.
+func divided(a, b whole.Integer) whole.Integer {
+	quotient, _, _ := a.Div(b)
+	return quotient
+}

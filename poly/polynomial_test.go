@@ -67,6 +67,8 @@ func TestLeadingZeros(t *testing.T) {
 		expectTexts(t, "Deriv", zero.Deriv(), "")
 		expectTexts(t, "Shift", p.Shift(half), "-3/4 1 1")
 		expectTexts(t, "Shift", zero.Shift(half), "")
+		expectTexts(t, "Primitive", p.Primitive(), "-1 0 1")
+		expectTexts(t, "Primitive", zero.Primitive(), "")
 		for _, c := range []struct{ got, want rat.Number }{
 			{p.Eval(half), parse(t, "-3/4")[0]},
 			{zero.Eval(half), rat.Number{}},
@@ -109,6 +111,26 @@ func TestAnySize(t *testing.T) {
 	}
 }
 
+func TestPrimitive(t *testing.T) {
+	long := strings.Repeat("9", 300)
+	for _, c := range []struct{ p, want string }{
+		{"1", "1"},
+		{"-5", "-1"},
+		{"3/7", "1"},
+		{"-2/3 4/5", "-5 6"},
+		{"0 -6 0 4 -2", "0 -3 0 2 -1"},
+		{"1/2 1/3 -1/4", "6 4 -3"},
+		{"6/35 10/21 -15/14", "36 100 -225"},
+		{"0 4/9", "0 1"},
+		{"3 1/3", "9 1"},
+		{"1/" + long + " 2/" + long, "1 2"},
+		{"-" + long + " 0 " + long, "-1 0 1"},
+		{"1/" + long + " 1/10", "10 " + long},
+	} {
+		expectTexts(t, "Primitive of "+c.p, parse(t, c.p).Primitive(), c.want)
+	}
+}
+
 // TestMethodsKeepTheirArguments overwrites the results.
 func TestMethodsKeepTheirArguments(t *testing.T) {
 	one := parse(t, "1")
@@ -118,7 +140,7 @@ func TestMethodsKeepTheirArguments(t *testing.T) {
 			quotient, rest, _ := p.Div(q)
 			for _, result := range []poly.Polynomial{
 				p.Add(q), q.Add(p), p.Add(nil), p.Mul(q), p.Mul(one), quotient, rest,
-				p.Deriv(), p.Shift(one[0]), p.Shift(rat.Number{}),
+				p.Deriv(), p.Shift(one[0]), p.Shift(rat.Number{}), p.Primitive(),
 			} {
 				result = result[:cap(result)]
 				for i := range result {
