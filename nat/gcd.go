@@ -69,12 +69,12 @@ func (x Natural) word(place int) uint64 {
 	return word
 }
 
-// share tells of what multiples of x and of y a remainder is the difference.
+// share has the multiples of x and of y whose difference is a remainder.
 type share struct{ x, y uint64 }
 
-// pair has the leading words of two successive remainders, a of which, after an
-// even number of steps, and b after an odd one, has the multiple of x as the
-// greater one of its share.
+// pair has the leading words of two successive remainders. After an even number
+// of steps, the first is a multiple of x less one of y, and the second a
+// multiple of y less one of x; after an odd number, it is the other way round.
 type pair struct {
 	a, b     uint64
 	ofA, ofB share
@@ -82,11 +82,11 @@ type pair struct {
 }
 
 // step takes one step of the Euclidean algorithm; it reports false, and takes
-// none, if the bits below the leading words might make a difference. Those
-// change a remainder by less than its share of y, which is not less than that
-// of x: so far, the next remainder has to be from 0 and from the divisor. The
-// shares then fit a limb, as the square of each is less than the leading word
-// of x.
+// none, if the bits below the leading words might make a difference. They change
+// a remainder by less than its share of y, as that of x is not greater: so the
+// next remainder must be at least its share, and be less than the divisor by at
+// least the sum of the shares of both. The square of a share is then at most the
+// leading word of x, so that shares fit a limb.
 func (p *pair) step() bool {
 	quotient, rest := p.a/p.b, p.a%p.b
 	ofRest := share{p.ofA.x + quotient*p.ofB.x, p.ofA.y + quotient*p.ofB.y}
